@@ -1,0 +1,1 @@
+"""Flatrooms: lots that are free, the room of their flats, and why its numbers bend."""
