@@ -1,4 +1,4 @@
-"""The interface: names, parameters and the file of each; and the conventions of point 3 that hold for all."""
+"""The interface: names, parameters and the file of each."""
 
 import inspect
 import unittest
@@ -14,6 +14,16 @@ INTERFACE = {
     "alike": {"renamed": ["book", "order"], "alike": ["one", "other"], "plain_book": ["book"],
               "all_books": ["size", "rank"]},
     "flats": {"flats": ["book"], "below": ["book", "flat"], "above": ["book", "flat"], "covers": ["book", "flat"]},
+    "signs": {"signs": ["book"], "sign_row": ["book"], "short_row": ["book"]},
+    "unbroken": {"unbroken": ["book"], "shadings": ["places", "ties", "hues"]},
+    "sweeps": {"sweep": ["book", "order"]},
+    "towers": {"tidy_towers": ["book", "degree"], "room_sizes": ["book"]},
+    "rooms": {"tidied": ["book", "towers"], "multiplied": ["book", "one", "other"],
+              "added": ["book", "one", "other", "times"], "powered": ["book", "one", "many"],
+              "last_number": ["book", "towers"]},
+    "sums": {"outer_sum": ["book"], "inner_sum": ["book"]},
+    "tables": {"determinant": ["table"], "sign_counts": ["table"]},
+    "pairing": {"opposite_table": ["book", "degree"], "told_by_last": ["book", "degree", "numbers"]},
 }
 
 
