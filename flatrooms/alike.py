@@ -47,7 +47,7 @@ def all_books(size, rank):
         bases = [lots[0], *[lot for at, lot in enumerate(lots[1:]) if choice >> at & 1]]
         if _is_plain(size, bases):
             found.append(bases)
-    return [Book(size, bases) for bases in sorted(found)]
+    return [Book(size, plain) for plain in sorted(found)]
 
 
 def need_order(book, order):

@@ -4,7 +4,7 @@ from flatrooms.books import need_book
 from flatrooms.errors import BadLot
 from flatrooms.masks import closure_of, flat_masks, lot_of, mask_of, rank_table
 from flatrooms.parts import book_beyond, book_within, things_beyond
-from flatrooms.ranks import closure, need_lot
+from flatrooms.ranks import closure
 
 
 def flats(book):
@@ -39,6 +39,6 @@ def covers(book, flat):
 
 def need_flat(book, flat):
     """Raises unless book is a book and flat one of its flats."""
-    need_lot(book, flat)
+    # closure refuses what is no book and what is no lot.
     if closure(book, flat) != flat:
         raise BadLot("no flat of the book")

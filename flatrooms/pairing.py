@@ -16,9 +16,10 @@ def opposite_table(book, degree):
 def told_by_last(book, degree, numbers):
     """The sum of tidy towers of degree whose products with those of the opposite one are told."""
     room = _room_with(book, degree)
-    rows = _opposite_rows(room, room.rank - 1 - degree)
-    if not is_list_of_numbers(numbers) or len(numbers) != len(rows):
+    opposite = room.rank - 1 - degree
+    if not is_list_of_numbers(numbers) or len(numbers) != len(tidy_list(room, opposite)):
         raise BadTable("no list of a number for each tidy tower of the opposite degree")
+    rows = _opposite_rows(room, opposite)
     told = _solution([[*row, number] for row, number in zip(rows, numbers)])
     towers = tidy_list(room, degree)
     return {tower: number for tower, number in zip(towers, told) if number != 0}
@@ -47,6 +48,7 @@ def _solution(rows):
     """The whole numbers x[0], x[1], .. with row[0] * x[0] + row[1] * x[1] + .. the last one of each row."""
     steps, _ = stepped(rows)
     found = []
+    # The determinant is 1 or -1, so each of the divisions comes out.
     for step in reversed(steps):
         known = sum([number * told for number, told in zip(step[1:], found)])
         found = [(step[-1] - known) // step[0], *found]

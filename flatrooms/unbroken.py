@@ -4,9 +4,9 @@ from flatrooms.books import need_book
 from flatrooms.errors import BadNumber
 from flatrooms.kinds import is_number_within
 from flatrooms.makers import need_web
+from flatrooms.masks import mask_of
 from flatrooms.powers import power
 from flatrooms.ranks import free_lots, least_bound
-from flatrooms.masks import mask_of
 
 MOST_HUES = 6
 

@@ -33,6 +33,9 @@ class Books(unittest.TestCase):
     def test_parameters_by_name_and_bases_as_a_tuple(self):
         self.assertEqual(Book(bases=((0,), (1,)), size=2), Book(2, [(1,), (0,)]))
 
+    def test_it_shows_what_it_is_made_of(self):
+        self.assertEqual(repr(Book(2, [(1,), (0,)])), "Book(2, ((0,), (1,)))")
+
     def test_least_and_greatest(self):
         self.assertEqual((Book(0, [()]).size, Book(0, [()]).bases, Book(0, [()]).rank), (0, ((),), 0))
         self.assertEqual(Book(8, [()]).rank, 0)
