@@ -128,6 +128,6 @@ def _risen(room, flat, many):
             for times in range(1, many + 1):
                 rest = _risen(room, higher, many - times)
                 for tower in rest:
-                    found[((higher, times), *tower)] = comb(many, times) * rest[tower]
+                    found[((higher, times),) + tower] = comb(many, times) * rest[tower]
         room.rises[(flat, many)] = found
     return room.rises[(flat, many)]

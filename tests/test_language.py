@@ -41,6 +41,14 @@ def called(node):
     return node.func.id if isinstance(node, ast.Call) and isinstance(node.func, ast.Name) else None
 
 
+def stars_of(tree):
+    """The stars, single and double, anywhere within; * between two numbers is none."""
+    return [node for node in ast.walk(tree)
+            if isinstance(node, ast.Starred)
+            or isinstance(node, ast.Dict) and None in node.keys
+            or isinstance(node, ast.keyword) and node.arg is None]
+
+
 def bound_names(tree):
     """The names that functions bind: parameters and local variables."""
     found = set()
@@ -194,6 +202,21 @@ class Language(unittest.TestCase):
             if called(node) in ("zip", "enumerate", "reversed", "range", "map", "combinations", "permutations") \
                     or name in ("items", "keys", "values"):
                 self.assertIn(id(node), fine, ast.unparse(node))
+
+    @each_file
+    def test_no_star_in_an_index(self, path, tree):
+        for node in ast.walk(tree):
+            if isinstance(node, ast.Subscript):
+                self.assertEqual(stars_of(node.slice), [], f"row {node.lineno}")
+
+    def test_stars_in_an_index_are_found(self):
+        for text in ("d[(1, *xs)]", "d[*xs]", "d[((a, b), *xs)] = 1", "d[0][[*xs][0]]", "d[{**e}]", "d[f(*xs)]",
+                     "d[f(**e)]", "del d[k, (*xs, 1)]", "d[(*xs,) + ys] += 1"):
+            found = [node for node in ast.walk(ast.parse(text)) if isinstance(node, ast.Subscript)]
+            self.assertTrue(any(stars_of(node.slice) for node in found), text)
+        for text in ("[*xs, 1][0]", "f(*xs)[0]", "d[((a, b),) + xs]", "d[a * b]", "(*xs, 1)[1:]", "d[-a:b]"):
+            found = [node for node in ast.walk(ast.parse(text)) if isinstance(node, ast.Subscript)]
+            self.assertFalse(any(stars_of(node.slice) for node in found), text)
 
     @each_file
     def test_errors_are_made_where_they_are_raised(self, path, tree):
