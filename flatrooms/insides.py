@@ -43,13 +43,35 @@ def tower_product(one, other):
 
 def sum_product(room, one, other):
     """The tidied product of two sums of towers."""
-    total = {}
-    for first in one:
-        for second in other:
-            tower = tower_product(first, second)
-            if tower is not None:
-                total[tower] = total.get(tower, 0) + one[first] * other[second]
-    return tidied_sum(room, total)
+    return tidied_sum(room, _plain_product(one, other))
+
+
+def product_of_sums(room, sums):
+    """The tidied product of all of sums, {(): 1} of none."""
+    product = {(): 1}
+    for one in sums:
+        product = sum_product(room, product, one)
+    return product
+
+
+def sum_power(room, one, many):
+    """The tidied product of so many factors one, {(): 1} of none."""
+    product = {(): 1}
+    square = one
+    left = many
+    # By squares, so that a great power ends, too.
+    while left > 0:
+        if left & 1:
+            product = sum_product(room, product, square)
+        left = left >> 1
+        if left > 0:
+            square = sum_product(room, square, square)
+    return product
+
+
+def letter_sum(room, numbers):
+    """The tidied sum of the letters of flats, each times its number; numbers is a dict from masks."""
+    return tidied_sum(room, {((flat, 1),): numbers[flat] for flat in numbers})
 
 
 def last_of(room, towers):
@@ -58,6 +80,16 @@ def last_of(room, towers):
     last = ((room.top, room.rank - 1),) if room.rank > 1 else ()
     number = tidied_sum(room, towers).get(last, 0)
     return number if room.rank & 1 else -number
+
+
+def last_of_product(room, one, other):
+    """The last number of the product of two sums whose degrees are together rank - 1."""
+    return last_of(room, _plain_product(one, other))
+
+
+def told_table(room, ones, others, towers):
+    """The tuple of tuples of the last numbers of each of ones times each of others times a sum of towers."""
+    return tuple([tuple([_last_of_three(room, one, other, towers) for other in others]) for one in ones])
 
 
 def tidied_sum(room, towers):
@@ -75,6 +107,22 @@ def tidy_parts(room, tower):
     if tower not in room.known:
         room.known[tower] = _worked_out(room, tower)
     return room.known[tower]
+
+
+def _plain_product(one, other):
+    """The product of two sums of towers as it comes, not tidied."""
+    total = {}
+    for first in one:
+        for second in other:
+            tower = tower_product(first, second)
+            if tower is not None:
+                total[tower] = total.get(tower, 0) + one[first] * other[second]
+    return total
+
+
+def _last_of_three(room, one, other, towers):
+    tower = tower_product(one, other)
+    return 0 if tower is None else last_of_product(room, {tower: 1}, towers)
 
 
 def _worked_out(room, tower):

@@ -15,6 +15,11 @@ def mask_of(lot):
     return mask
 
 
+def mask_among(things, lot):
+    """The mask of the things that are called by their indexes, in lot."""
+    return mask_of([things[at] for at in lot])
+
+
 def lot_of(mask):
     return tuple([thing for thing in range(mask.bit_length()) if mask >> thing & 1])
 

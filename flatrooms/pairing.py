@@ -1,21 +1,21 @@
 """Opposite parts of the room: what each sum of one degree tells of those of the other one."""
 
 from flatrooms.errors import BadNumber, BadTable
-from flatrooms.insides import last_of, tower_product
+from flatrooms.insides import told_table
 from flatrooms.kinds import is_list_of_numbers, is_number_within
 from flatrooms.tables import stepped
-from flatrooms.towers import mask_tower, room_of, tidy_list
+from flatrooms.towers import room_of, tidy_list, tidy_masks
 
 
 def opposite_table(book, degree):
     """The last numbers of the products of the tidy towers of degree and of the opposite degree."""
-    room = _room_with(book, degree)
-    return tuple([tuple(row) for row in _opposite_rows(room, degree)])
+    room = room_with(book, degree)
+    return _opposite_rows(room, degree)
 
 
 def told_by_last(book, degree, numbers):
     """The sum of tidy towers of degree whose products with those of the opposite one are told."""
-    room = _room_with(book, degree)
+    room = room_with(book, degree)
     opposite = room.rank - 1 - degree
     if not is_list_of_numbers(numbers) or len(numbers) != len(tidy_list(room, opposite)):
         raise BadTable("no list of a number for each tidy tower of the opposite degree")
@@ -25,7 +25,7 @@ def told_by_last(book, degree, numbers):
     return {tower: number for tower, number in zip(towers, told) if number != 0}
 
 
-def _room_with(book, degree):
+def room_with(book, degree):
     """The room of a book; raises unless degree is one of its degrees."""
     room = room_of(book)
     if not is_number_within(degree, 0, room.rank - 1):
@@ -34,14 +34,8 @@ def _room_with(book, degree):
 
 
 def _opposite_rows(room, degree):
-    ones = [mask_tower(room, tower) for tower in tidy_list(room, degree)]
-    others = [mask_tower(room, tower) for tower in tidy_list(room, room.rank - 1 - degree)]
-    return [[_last_of_two(room, one, other) for other in others] for one in ones]
-
-
-def _last_of_two(room, one, other):
-    product = tower_product(one, other)
-    return 0 if product is None else last_of(room, {product: 1})
+    others = tidy_masks(room, room.rank - 1 - degree)
+    return told_table(room, tidy_masks(room, degree), others, {(): 1})
 
 
 def _solution(rows):

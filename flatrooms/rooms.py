@@ -1,7 +1,7 @@
 """Sums of towers, and their sums and products by the rules of the room."""
 
 from flatrooms.errors import BadNumber, BadSum
-from flatrooms.insides import degree_of, last_of, sum_product, tidied_sum
+from flatrooms.insides import degree_of, last_of, sum_power, sum_product, tidied_sum
 from flatrooms.kinds import is_number
 from flatrooms.towers import is_tower, lots_tower, mask_tower, room_of
 
@@ -35,19 +35,10 @@ def added(book, one, other, times):
 def powered(book, one, many):
     """The product of so many factors one, tidied."""
     room = room_of(book)
-    square = mask_sum(room, one)
+    factor = mask_sum(room, one)
     if not is_number(many) or many < 0:
         raise BadNumber("many")
-    product = {(): 1}
-    # By squares, so that a great power ends, too.
-    left = many
-    while left > 0:
-        if left & 1:
-            product = sum_product(room, product, square)
-        left = left >> 1
-        if left > 0:
-            square = sum_product(room, square, square)
-    return lots_sum(room, product)
+    return lots_sum(room, sum_power(room, factor, many))
 
 
 def last_number(book, towers):

@@ -1,4 +1,6 @@
-"""Square tables of whole numbers: determinants, and the counts of signs of forms."""
+"""Tables of whole numbers: determinants, the counts of signs of forms, and what adds up to nothing."""
+
+from math import gcd
 
 from flatrooms.errors import BadTable
 from flatrooms.kinds import is_list, is_list_of_numbers
@@ -60,6 +62,35 @@ def stepped(rows):
         before = step[0]
         steps.append(step)
     return steps, sign
+
+
+def kept_rows(rows):
+    """Rows of numbers, one for each of rows, that times these add up to nothing.
+
+    They are free of one another, and as many as can be. All of rows are of one length, one of them at least.
+    """
+    width = len(rows[0])
+    left = []
+    for at, row in enumerate(rows):
+        left.append(list(row) + [1 if to == at else 0 for to in range(len(rows))])
+    for at in range(width):
+        pivots = [row for row in left if row[at] != 0]
+        others = [row for row in left if row[at] == 0]
+        left = [_divided(_cleared_at(row, pivots[0], at)) for row in pivots[1:]] + others
+    return [row[width:] for row in left]
+
+
+def _cleared_at(row, pivot, at):
+    """Times of row, less times of pivot, that is 0 at this index."""
+    return [pivot[at] * one - row[at] * other for one, other in zip(row, pivot)]
+
+
+def _divided(row):
+    """The row, which is not all 0, divided by the greatest number that divides all of it."""
+    most = 0
+    for number in row:
+        most = gcd(most, number)
+    return [number // most for number in row]
 
 
 def _cleared(row, step, before):

@@ -43,6 +43,11 @@ def tidy_list(room, degree):
     return sorted([lots_tower(room, tower) for tower in _tidy_over(room, 0, 0, degree)])
 
 
+def tidy_masks(room, degree):
+    """What tidy_list has, in its sequence, with masks for the flats."""
+    return [mask_tower(room, tower) for tower in tidy_list(room, degree)]
+
+
 def is_tower(room, thing):
     """Whether thing, any value, is a tower of the book of the room."""
     if not isinstance(thing, tuple) or not all([_is_step(room, pair) for pair in thing]):

@@ -1,6 +1,7 @@
 """Towers straight from the definitions, to test the room with."""
 
 from math import comb
+from random import Random
 
 from tests.samples import plain_flats, plain_rank
 
@@ -88,6 +89,33 @@ def full_towers(book):
     """All towers with one flat of each rank from 1 to rank - 1, each once."""
     return [tower for tower in all_towers(book, book.rank - 1)
             if [plain_rank(book, flat) for flat, _ in tower] == list(range(1, book.rank))]
+
+
+def prime_rank(rows, prime=1000003):
+    """How many of rows are free of one another modulo the prime; over fractions there are as many at least."""
+    left = [[number % prime for number in row] for row in rows]
+    rank = 0
+    while left:
+        row = left.pop()
+        at = next((k for k, number in enumerate(row) if number), None)
+        if at is not None:
+            rank += 1
+            turn = pow(row[at], -1, prime)
+            row = [number * turn % prime for number in row]
+            left = [[(a - other[at] * b) % prime for a, b in zip(other, row)] if other[at] else other
+                    for other in left]
+    return rank
+
+
+def rows_of(sums, towers):
+    """The numbers of sums at towers."""
+    return [[one.get(tower, 0) for tower in towers] for one in sums]
+
+
+def chance_sum(towers, seed, numbers=(-3, -1, 0, 1, 2, 10 ** 20)):
+    """A sum of some of towers, taken by chance, always the same for a seed."""
+    chance = Random(seed)
+    return {tower: chance.choice(numbers) for tower in chance.sample(towers, min(len(towers), 6))}
 
 
 def choose(many, few):

@@ -24,6 +24,16 @@ INTERFACE = {
     "sums": {"outer_sum": ["book"], "inner_sum": ["book"]},
     "tables": {"determinant": ["table"], "sign_counts": ["table"]},
     "pairing": {"opposite_table": ["book", "degree"], "told_by_last": ["book", "degree", "numbers"]},
+    "weights": {"is_weights": ["size", "thing"], "bends": ["size", "weights", "amount"],
+                "weight_sum": ["book", "weights"]},
+    "steps": {"path_table": ["book", "degree", "sums"]},
+    "forms": {"form_table": ["book", "degree", "sums"], "kept_sums": ["book", "degree", "sums"]},
+    "mixes": {"mixed_numbers": ["book"], "mixed_volumes": ["book", "one", "other"],
+              "falling_chains": ["book", "length"]},
+    "towernumbers": {"tower_number": ["book", "tower"]},
+    "volumes": {"volume_rows": ["book"], "volume": ["book", "weights"]},
+    "slopes": {"second_slopes": ["book", "weights"]},
+    "letters": {"by_letter": ["book", "flat", "low", "high"]},
 }
 
 

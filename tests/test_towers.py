@@ -4,12 +4,20 @@ import unittest
 
 from flatrooms.books import Book
 from flatrooms.errors import BadBook, BadNumber, TooMany
+from flatrooms.forms import form_table, kept_sums
+from flatrooms.letters import by_letter
 from flatrooms.makers import even_book, table_book, web_book
+from flatrooms.mixes import falling_chains, mixed_numbers, mixed_volumes
 from flatrooms.pairing import opposite_table, told_by_last
 from flatrooms.rooms import added, last_number, multiplied, powered, tidied
 from flatrooms.sides import side_by_side
+from flatrooms.slopes import second_slopes
+from flatrooms.steps import path_table
 from flatrooms.sums import inner_sum, outer_sum
+from flatrooms.towernumbers import tower_number
 from flatrooms.towers import room_sizes, tidy_towers
+from flatrooms.volumes import volume, volume_rows
+from flatrooms.weights import weight_sum
 from tests.roomhelp import all_towers, everything, is_tidy, plain_product, with_thing
 from tests.samples import FANO, ODDS, book_of, room_books
 
@@ -18,7 +26,12 @@ IN_THE_ROOM = [lambda book: tidy_towers(book, "x"), room_sizes, lambda book: tid
                lambda book: multiplied(book, "x", "x"), lambda book: added(book, "x", "x", "x"),
                lambda book: powered(book, "x", "x"), lambda book: last_number(book, "x"),
                outer_sum, inner_sum, lambda book: opposite_table(book, "x"),
-               lambda book: told_by_last(book, "x", "x")]
+               lambda book: told_by_last(book, "x", "x"), lambda book: weight_sum(book, "x"),
+               lambda book: path_table(book, "x", "x"), lambda book: form_table(book, "x", "x"),
+               lambda book: kept_sums(book, "x", "x"), mixed_numbers, lambda book: mixed_volumes(book, "x", "x"),
+               lambda book: falling_chains(book, "x"), lambda book: tower_number(book, "x"), volume_rows,
+               lambda book: volume(book, "x"), lambda book: second_slopes(book, "x"),
+               lambda book: by_letter(book, "x", "x", "x")]
 
 
 def free_of_rules(book, degree):
