@@ -11,15 +11,14 @@ from flatrooms.towers import room_of, tidy_list, tidy_masks
 def form_table(book, degree, sums):
     """The last numbers of each two tidy towers of degree, multiplied, times all of sums."""
     room = _lower_room(book, degree)
-    steps = _steps_of(room, sums, room.rank - 1 - 2 * degree)
-    towers = tidy_masks(room, degree)
-    return told_table(room, towers, towers, product_of_sums(room, steps))
+    steps = _steps_of(room, sums, room.most - 2 * degree)
+    return form_rows(room, degree, steps)
 
 
 def kept_sums(book, degree, sums):
     """Sums of tidy towers of degree, free of one another, that make up all that sums multiply to nothing."""
     room = _lower_room(book, degree)
-    steps = _steps_of(room, sums, room.rank - 2 * degree)
+    steps = _steps_of(room, sums, room.most - 2 * degree + 1)
     towers = tidy_list(room, degree)
     found = []
     for numbers in kept_rows(path_rows(room, degree, steps)):
@@ -27,10 +26,16 @@ def kept_sums(book, degree, sums):
     return found
 
 
+def form_rows(room, degree, steps):
+    """form_table of what step_sums makes of sums."""
+    towers = tidy_masks(room, degree)
+    return told_table(room, towers, towers, product_of_sums(room, steps))
+
+
 def _lower_room(book, degree):
     """The room of a book; raises unless degree is at most half of its greatest degree."""
     room = room_of(book)
-    if not is_number_within(degree, 0, (room.rank - 1) // 2):
+    if not is_number_within(degree, 0, room.most // 2):
         raise BadNumber("degree")
     return room
 

@@ -6,10 +6,16 @@ from flatrooms.masks import flat_masks, lot_of, rank_table
 
 
 class Room:
-    """The flats of a book that have letters, and what has been worked out of its towers."""
+    """The flats of a book that have letters, and what has been worked out of its towers.
 
-    def __init__(self, book):
+    The room and the wider room differ in one number alone, the rank that counts as that of what stands behind
+    the first flat of a tower: 0 in the room, -1 in the wider room. most is the greatest degree of a tidy tower.
+    """
+
+    def __init__(self, book, behind):
         ranks = rank_table(book)
+        self.behind = behind
+        self.most = book.rank - 1 - behind
         self.size = book.size
         self.rank = book.rank
         self.top = (1 << book.size) - 1
@@ -75,15 +81,15 @@ def letter_sum(room, numbers):
 
 
 def last_of(room, towers):
-    """The last number of a sum of towers of degree rank - 1."""
-    # The letter of all things, so many times, is the one tidy tower of this degree, () for rank 1.
-    last = ((room.top, room.rank - 1),) if room.rank > 1 else ()
+    """The last number of a sum of towers of the greatest degree."""
+    # The letter of all things, so many times, is the one tidy tower of this degree, () for degree 0.
+    last = ((room.top, room.most),) if room.most > 0 else ()
     number = tidied_sum(room, towers).get(last, 0)
-    return number if room.rank & 1 else -number
+    return -number if room.most & 1 else number
 
 
 def last_of_product(room, one, other):
-    """The last number of the product of two sums whose degrees are together rank - 1."""
+    """The last number of the product of two sums whose degrees are together the greatest one."""
     return last_of(room, _plain_product(one, other))
 
 
@@ -127,7 +133,7 @@ def _last_of_three(room, one, other, towers):
 
 def _worked_out(room, tower):
     # Ahead of all else: by steps, times without a limit would not come to an end.
-    if degree_of(tower) >= room.rank:
+    if degree_of(tower) > room.most:
         return {}
     at = _untidy_at(room, tower)
     if at is None:
@@ -137,7 +143,7 @@ def _worked_out(room, tower):
 
 def _untidy_at(room, tower):
     """The index of the first pair of a tower whose times are too many, None if it is tidy."""
-    behind = 0
+    behind = room.behind
     for at, (flat, times) in enumerate(tower):
         if times >= room.ranks[flat] - behind:
             return at
@@ -148,12 +154,12 @@ def _untidy_at(room, tower):
 def _lifted(room, tower, at):
     """The sum of towers with greater flats that a tower is whose times at this index are too many.
 
-    Let G be the flat at the index, F the one ahead of it (or that of rank 0), and d the ranks of G more
-    than those of F. Of G and of all flats over it let the letters be added: behind F, the power d of this
-    sum is nothing. So the letter of G, d times, is less all other parts of that power.
+    Let G be the flat at the index, F the one ahead of it, and d the ranks of G more than those of F (for the
+    first flat, than what stands behind it). Of G and of all flats over it let the letters be added: behind F,
+    the power d of this sum is nothing. So the letter of G, d times, is less all other parts of that power.
     """
     flat, times = tower[at]
-    power = room.ranks[flat] - (room.ranks[tower[at - 1][0]] if at > 0 else 0)
+    power = room.ranks[flat] - (room.ranks[tower[at - 1][0]] if at > 0 else room.behind)
     total = {}
     for many in range(1, power + 1):
         left = times - many

@@ -8,16 +8,12 @@ from flatrooms.towers import is_tower, lots_tower, mask_tower, room_of
 
 def tidied(book, towers):
     """The sum of tidy towers that a sum of towers is."""
-    room = room_of(book)
-    return lots_sum(room, tidied_sum(room, mask_sum(room, towers)))
+    return tidied_in(room_of(book), towers)
 
 
 def multiplied(book, one, other):
     """The product of two sums of towers, tidied."""
-    room = room_of(book)
-    first = mask_sum(room, one)
-    second = mask_sum(room, other)
-    return lots_sum(room, sum_product(room, first, second))
+    return multiplied_in(room_of(book), one, other)
 
 
 def added(book, one, other, times):
@@ -34,19 +30,36 @@ def added(book, one, other, times):
 
 def powered(book, one, many):
     """The product of so many factors one, tidied."""
-    room = room_of(book)
+    return powered_in(room_of(book), one, many)
+
+
+def last_number(book, towers):
+    """The number of a sum of towers of degree rank - 1, if the one of each full tower is 1."""
+    return last_in(room_of(book), towers)
+
+
+def tidied_in(room, towers):
+    return lots_sum(room, tidied_sum(room, mask_sum(room, towers)))
+
+
+def multiplied_in(room, one, other):
+    first = mask_sum(room, one)
+    second = mask_sum(room, other)
+    return lots_sum(room, sum_product(room, first, second))
+
+
+def powered_in(room, one, many):
     factor = mask_sum(room, one)
     if not is_number(many) or many < 0:
         raise BadNumber("many")
     return lots_sum(room, sum_power(room, factor, many))
 
 
-def last_number(book, towers):
-    """The number of a sum of towers of degree rank - 1, if the one of each full tower is 1."""
-    room = room_of(book)
+def last_in(room, towers):
+    """The last number of a sum of towers; raises unless all are of the greatest degree."""
     total = mask_sum(room, towers)
-    if not all([degree_of(tower) == room.rank - 1 for tower in total]):
-        raise BadSum("not all towers are of degree rank - 1")
+    if not all([degree_of(tower) == room.most for tower in total]):
+        raise BadSum("not all towers are of the greatest degree")
     return last_of(room, total)
 
 

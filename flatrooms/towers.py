@@ -11,20 +11,34 @@ MOST_IN_ROOM = 7
 
 def tidy_towers(book, degree):
     """The ascending list of the tidy towers of this degree."""
-    room = room_of(book)
+    return towers_in(room_of(book), degree)
+
+
+def room_sizes(book):
+    """The tuple of how many tidy towers there are, for degrees from 0 to rank - 1."""
+    return sizes_in(room_of(book))
+
+
+def towers_in(room, degree):
+    """The ascending list of the tidy towers of degree, any value; raises unless it is a number from 0 on."""
     if not is_number(degree) or degree < 0:
         raise BadNumber("degree")
     return tidy_list(room, degree)
 
 
-def room_sizes(book):
-    """The tuple of how many tidy towers there are, for degrees from 0 to rank - 1."""
-    room = room_of(book)
-    return tuple([len(tidy_list(room, degree)) for degree in range(room.rank)])
+def sizes_in(room):
+    """The tuple of how many tidy towers there are of each degree."""
+    return tuple([len(tidy_list(room, degree)) for degree in range(room.most + 1)])
 
 
 def room_of(book):
     """The room of a book; raises for what has none."""
+    need_room(book)
+    return Room(book, 0)
+
+
+def need_room(book):
+    """Raises unless book is a book that has a room."""
     need_book(book)
     if idle(book):
         raise BadBook("idle")
@@ -32,15 +46,14 @@ def room_of(book):
         raise BadBook("rank")
     if book.size > MOST_IN_ROOM:
         raise TooMany(MOST_IN_ROOM)
-    return Room(book)
 
 
 def tidy_list(room, degree):
     """The ascending list of the tidy towers of this degree, a number from 0 on."""
-    # There are none of the rank or more; without this test a great degree would search in vain.
-    if degree >= room.rank:
+    # There are none beyond the greatest degree; without this test a great one would search in vain.
+    if degree > room.most:
         return []
-    return sorted([lots_tower(room, tower) for tower in _tidy_over(room, 0, 0, degree)])
+    return sorted([lots_tower(room, tower) for tower in _tidy_over(room, 0, room.behind, degree)])
 
 
 def tidy_masks(room, degree):

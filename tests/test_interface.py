@@ -34,6 +34,16 @@ INTERFACE = {
     "volumes": {"volume_rows": ["book"], "volume": ["book", "weights"]},
     "slopes": {"second_slopes": ["book", "weights"]},
     "letters": {"by_letter": ["book", "flat", "low", "high"]},
+    "leavings": {"both_flats": ["book", "thing"], "led_in": ["book", "thing", "towers"]},
+    "splits": {"by_thing": ["book", "thing", "flat", "low", "high"], "split_by": ["book", "thing", "towers"]},
+    "sizerows": {"sizes_by_signs": ["book"], "sizes_by_thing": ["book", "thing"], "middle_row": ["book"]},
+    "cuttings": {"cut_led": ["book", "towers"]},
+    "wides": {"wide_towers": ["book", "degree"], "wide_sizes": ["book"], "wide_tidied": ["book", "towers"],
+              "wide_multiplied": ["book", "one", "other"], "wide_powered": ["book", "one", "many"],
+              "wide_last": ["book", "towers"]},
+    "widesums": {"thing_letter": ["book", "thing"], "bare_letter": ["book"], "lot_letter": ["book", "lot"]},
+    "widesteps": {"wide_pairing": ["book", "degree"], "is_rising": ["book", "thing"],
+                  "rising_sum": ["book", "weights"], "wide_form": ["book", "sums", "degree"]},
 }
 
 

@@ -3,21 +3,28 @@
 import unittest
 
 from flatrooms.books import Book
+from flatrooms.cuttings import cut_led
 from flatrooms.errors import BadBook, BadNumber, TooMany
 from flatrooms.forms import form_table, kept_sums
+from flatrooms.leavings import both_flats, led_in
 from flatrooms.letters import by_letter
 from flatrooms.makers import even_book, table_book, web_book
 from flatrooms.mixes import falling_chains, mixed_numbers, mixed_volumes
 from flatrooms.pairing import opposite_table, told_by_last
 from flatrooms.rooms import added, last_number, multiplied, powered, tidied
 from flatrooms.sides import side_by_side
+from flatrooms.sizerows import middle_row, sizes_by_signs, sizes_by_thing
 from flatrooms.slopes import second_slopes
+from flatrooms.splits import by_thing, split_by
 from flatrooms.steps import path_table
 from flatrooms.sums import inner_sum, outer_sum
 from flatrooms.towernumbers import tower_number
 from flatrooms.towers import room_sizes, tidy_towers
 from flatrooms.volumes import volume, volume_rows
 from flatrooms.weights import weight_sum
+from flatrooms.wides import wide_last, wide_multiplied, wide_powered, wide_sizes, wide_tidied, wide_towers
+from flatrooms.widesteps import is_rising, rising_sum, wide_form, wide_pairing
+from flatrooms.widesums import bare_letter, lot_letter, thing_letter
 from tests.roomhelp import all_towers, everything, is_tidy, plain_product, with_thing
 from tests.samples import FANO, ODDS, book_of, room_books
 
@@ -31,7 +38,15 @@ IN_THE_ROOM = [lambda book: tidy_towers(book, "x"), room_sizes, lambda book: tid
                lambda book: kept_sums(book, "x", "x"), mixed_numbers, lambda book: mixed_volumes(book, "x", "x"),
                lambda book: falling_chains(book, "x"), lambda book: tower_number(book, "x"), volume_rows,
                lambda book: volume(book, "x"), lambda book: second_slopes(book, "x"),
-               lambda book: by_letter(book, "x", "x", "x")]
+               lambda book: by_letter(book, "x", "x", "x"), lambda book: both_flats(book, "x"),
+               lambda book: led_in(book, "x", "x"), lambda book: by_thing(book, "x", "x", "x", "x"),
+               lambda book: split_by(book, "x", "x"), sizes_by_signs, lambda book: sizes_by_thing(book, "x"),
+               middle_row, lambda book: cut_led(book, "x"), lambda book: wide_towers(book, "x"), wide_sizes,
+               lambda book: wide_tidied(book, "x"), lambda book: wide_multiplied(book, "x", "x"),
+               lambda book: wide_powered(book, "x", "x"), lambda book: wide_last(book, "x"),
+               lambda book: thing_letter(book, "x"), bare_letter, lambda book: lot_letter(book, "x"),
+               lambda book: wide_pairing(book, "x"), lambda book: is_rising(book, "x"),
+               lambda book: rising_sum(book, "x"), lambda book: wide_form(book, "x", "x")]
 
 
 def free_of_rules(book, degree):

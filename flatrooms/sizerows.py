@@ -1,0 +1,58 @@
+"""The sizes of the room, told by signs and by a thing left out, and their middle row."""
+
+from math import comb
+
+from flatrooms.flats import above, below
+from flatrooms.leavings import flats_with_and_without, need_leaving
+from flatrooms.ranks import sure
+from flatrooms.sides import left_out
+from flatrooms.signs import short_row
+from flatrooms.towers import room_of, room_sizes, sizes_in
+
+
+def sizes_by_signs(book):
+    """room_sizes, told by the short rows of the books below flats."""
+    room = room_of(book)
+    sizes = [0] * room.rank
+    for mask in room.ranks:
+        flat = room.lots[mask]
+        row = short_row(below(book, flat))
+        lower = [-number if at & 1 else number for at, number in enumerate(row)]
+        upper = room_sizes(above(book, flat)) if mask != room.top else (1,)
+        _add_product(sizes, lower[::-1], upper, 0)
+    return tuple(sizes)
+
+
+def sizes_by_thing(book, thing):
+    """room_sizes, told by the books that a thing left out leads to."""
+    room = room_of(book)
+    need_leaving(room, thing)
+    sizes = [0] * room.rank
+    left = room_sizes(left_out(book, thing))
+    _add_product(sizes, left, (1,), 0)
+    if thing in sure(book):
+        _add_product(sizes, left, (1,), 1)
+    for flat in flats_with_and_without(room, thing):
+        joined = tuple(sorted([*flat, thing]))
+        _add_product(sizes, room_sizes(below(book, flat)), room_sizes(above(book, joined)), 1)
+    return tuple(sizes)
+
+
+def middle_row(book):
+    """The numbers g(k) for which room_sizes are the sum of all g(k) * t ** k * (1 + t) ** (rank - 1 - 2 * k)."""
+    room = room_of(book)
+    left = list(sizes_in(room))
+    row = []
+    for at in range(room.most // 2 + 1):
+        number = left[at]
+        for more in range(room.most - 2 * at + 1):
+            left[at + more] -= number * comb(room.most - 2 * at, more)
+        row.append(number)
+    return tuple(row)
+
+
+def _add_product(sizes, one, other, by):
+    """Adds the product of two rows of numbers, each a power of t, to sizes, so many powers higher."""
+    for at, number in enumerate(one):
+        for to, more in enumerate(other):
+            sizes[at + to + by] += number * more
