@@ -37,14 +37,17 @@ def degree_of(tower):
 
 def tower_product(one, other):
     """The tower that two towers multiply to, None if that is nothing."""
+    if one == () or other == ():
+        return one + other
+    for flat, _ in one:
+        for more, _ in other:
+            if flat & more != flat and flat & more != more:
+                return None
     times = {flat: many for flat, many in one}
     for flat, many in other:
         times[flat] = times.get(flat, 0) + many
-    chain = sorted(times)
-    for low, high in zip(chain, chain[1:]):
-        if low & high != low:
-            return None
-    return tuple([(flat, times[flat]) for flat in chain])
+    # A flat within another one has the lesser mask, so the pairs ascend.
+    return tuple(sorted(times.items()))
 
 
 def sum_product(room, one, other):

@@ -54,8 +54,9 @@ def mask_weights(weights):
 def bend_by(table, amount):
     """Whether weights, told by mask_weights, bend by this amount."""
     for one in range(len(table)):
+        # A lot that has all things of another one has the greater mask: other does not have those of one.
         for other in range(one):
             both = one | other
-            if both != one and both != other and table[one] + table[other] < table[both] + table[one & other] + amount:
+            if both != one and table[one] + table[other] < table[both] + table[one & other] + amount:
                 return False
     return True

@@ -135,9 +135,9 @@ class Volumes(unittest.TestCase):
             bent = [bent_weights(size, seed), even_weights(size)]
             weak = [weak_weights(size, seed), rank_weights(book), outer_weights(size), inner_weights(size),
                     same_weights(size, 1), same_weights(size, 0)]
-            for one in [*bent, *weak]:
+            for one in [*bent, *(weak if size < 6 else weak[:2])]:
                 self.assertTrue(bends(size, one, 0))
-                for other in [bent[0], weak[0], one]:
+                for other in [bent[0], weak[0], one] if size < 6 else [bent[0], weak[0]]:
                     row = mixed_volumes(book, one, other)
                     self.assertGreaterEqual(min(row), 0)
                     self.assertTrue(squares_are_enough(row))

@@ -65,7 +65,8 @@ class Numbers(unittest.TestCase):
 
 class Wrong(unittest.TestCase):
     def test_any_value(self):
-        for thing in [*ODDS, *NO_TOWERS, 0, [], [((0,), 2)], {(((0,), 2),): 1}]:
+        lists = [[], [((0,), 2)], ([(0,), 2],), (([0], 2),), [[[0], 2]], (((0,), [2]),), (((0,), (2,)),)]
+        for thing in [*ODDS, *NO_TOWERS, *lists, 0, {(((0,), 2),): 1}]:
             for book in (even_book(3, 3), even_book(4, 4)):
                 with self.assertRaises(BadTower):
                     tower_number(book, thing)
