@@ -2,6 +2,7 @@
 
 from flatrooms.books import need_book
 from flatrooms.errors import BadBook, BadNumber
+from flatrooms.flatorders import signs_over
 from flatrooms.masks import flat_masks, lot_of, rank_table
 from flatrooms.ranks import idle
 
@@ -40,9 +41,5 @@ def short_row(book):
 
 def _mask_signs(ranks):
     """The dict from the masks of the flats to their signs."""
-    known = {}
     # A flat within another one has the lesser mask: it comes first, the one of rank 0 ahead of all.
-    for mask in flat_masks(ranks):
-        within = [known[other] for other in known if other & mask == other]
-        known[mask] = -sum(within) if within else 1
-    return known
+    return signs_over(flat_masks(ranks), 0)

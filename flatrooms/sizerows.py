@@ -5,6 +5,7 @@ from math import comb
 from flatrooms.flats import above, below
 from flatrooms.leavings import flats_with_and_without, need_leaving
 from flatrooms.ranks import sure
+from flatrooms.rows import add_product
 from flatrooms.sides import left_out
 from flatrooms.signs import short_row
 from flatrooms.towers import room_of, room_sizes, sizes_in
@@ -19,7 +20,7 @@ def sizes_by_signs(book):
         row = short_row(below(book, flat))
         lower = [-number if at & 1 else number for at, number in enumerate(row)]
         upper = room_sizes(above(book, flat)) if mask != room.top else (1,)
-        _add_product(sizes, lower[::-1], upper, 0)
+        add_product(sizes, lower[::-1], upper, 0)
     return tuple(sizes)
 
 
@@ -29,12 +30,12 @@ def sizes_by_thing(book, thing):
     need_leaving(room, thing)
     sizes = [0] * room.rank
     left = room_sizes(left_out(book, thing))
-    _add_product(sizes, left, (1,), 0)
+    add_product(sizes, left, (1,), 0)
     if thing in sure(book):
-        _add_product(sizes, left, (1,), 1)
+        add_product(sizes, left, (1,), 1)
     for flat in flats_with_and_without(room, thing):
         joined = tuple(sorted([*flat, thing]))
-        _add_product(sizes, room_sizes(below(book, flat)), room_sizes(above(book, joined)), 1)
+        add_product(sizes, room_sizes(below(book, flat)), room_sizes(above(book, joined)), 1)
     return tuple(sizes)
 
 
@@ -49,10 +50,3 @@ def middle_row(book):
             left[at + more] -= number * comb(room.most - 2 * at, more)
         row.append(number)
     return tuple(row)
-
-
-def _add_product(sizes, one, other, by):
-    """Adds the product of two rows of numbers, each a power of t, to sizes, so many powers higher."""
-    for at, number in enumerate(one):
-        for to, more in enumerate(other):
-            sizes[at + to + by] += number * more

@@ -44,6 +44,15 @@ INTERFACE = {
     "widesums": {"thing_letter": ["book", "thing"], "bare_letter": ["book"], "lot_letter": ["book", "lot"]},
     "widesteps": {"wide_pairing": ["book", "degree"], "is_rising": ["book", "thing"],
                   "rising_sum": ["book", "weights"], "wide_form": ["book", "sums", "degree"]},
+    "flatsums": {"join": ["book", "one", "other"], "flats_joined": ["book", "one", "other"],
+                 "flats_graded": ["book", "one", "other"], "single_sums": ["book"]},
+    "jointables": {"join_table": ["book", "numbers"], "told_determinant": ["book", "numbers"]},
+    "rising": {"flat_row": ["book"], "rise_table": ["book", "weights", "low", "high"], "is_modular": ["book"]},
+    "risemaps": {"rise_map": ["book", "low", "high"], "rise_bar": ["book", "low", "high"]},
+    "freerows": {"free_row": ["book"], "free_gaps": ["book"]},
+    "rows": {"is_row": ["thing"], "row_product": ["one", "other"], "between": ["book", "flat", "other"]},
+    "ownrows": {"own_rows": ["book"], "own_row": ["book"]},
+    "backrows": {"back_row": ["book"]},
 }
 
 
