@@ -1,5 +1,7 @@
 """Rows: tuples of numbers, the last one not 0, that stand for sums of powers of t."""
 
+from math import comb
+
 from flatrooms.errors import BadLot, BadRow
 from flatrooms.flatorders import flat_in, order_of, signs_over
 from flatrooms.kinds import is_list_of_numbers
@@ -54,6 +56,21 @@ def add_product(total, one, other, by):
     for at, number in enumerate(one):
         for to, more in enumerate(other):
             total[at + to + by] += number * more
+
+
+def middle_of(numbers):
+    """The tuple of g(k), up to half of d, for which numbers are the sum of all g(k) * t ** k * (1 + t) ** (d - 2 * k).
+
+    The numbers are those at the powers of t from 0 to d, the same backwards.
+    """
+    left = list(numbers)
+    found = []
+    for at in range((len(left) + 1) // 2):
+        number = left[at]
+        powers = len(left) - 1 - 2 * at
+        add_product(left, [comb(powers, more) for more in range(powers + 1)], (-number,), at)
+        found.append(number)
+    return tuple(found)
 
 
 def _between(order, signs, low, high):

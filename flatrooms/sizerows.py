@@ -1,14 +1,12 @@
 """The sizes of the room, told by signs and by a thing left out, and their middle row."""
 
-from math import comb
-
 from flatrooms.flats import above, below
 from flatrooms.leavings import flats_with_and_without, need_leaving
 from flatrooms.ranks import sure
-from flatrooms.rows import add_product
+from flatrooms.rows import add_product, middle_of
 from flatrooms.sides import left_out
 from flatrooms.signs import short_row
-from flatrooms.towers import room_of, room_sizes, sizes_in
+from flatrooms.towers import room_of, room_sizes
 
 
 def sizes_by_signs(book):
@@ -41,12 +39,4 @@ def sizes_by_thing(book, thing):
 
 def middle_row(book):
     """The numbers g(k) for which room_sizes are the sum of all g(k) * t ** k * (1 + t) ** (rank - 1 - 2 * k)."""
-    room = room_of(book)
-    left = list(sizes_in(room))
-    row = []
-    for at in range(room.most // 2 + 1):
-        number = left[at]
-        for more in range(room.most - 2 * at + 1):
-            left[at + more] -= number * comb(room.most - 2 * at, more)
-        row.append(number)
-    return tuple(row)
+    return middle_of(room_sizes(book))

@@ -53,7 +53,23 @@ INTERFACE = {
     "rows": {"is_row": ["thing"], "row_product": ["one", "other"], "between": ["book", "flat", "other"]},
     "ownrows": {"own_rows": ["book"], "own_row": ["book"]},
     "backrows": {"back_row": ["book"]},
+    "mirrors": {"mirror_row": ["book"], "bent_row": ["book"]},
+    "evenrows": {"even_row": ["rank", "size"]},
+    "leftrows": {"half_number": ["book"], "own_row_left": ["book", "thing"], "mirror_row_left": ["book", "thing"]},
+    "live": {"started": ["start"], "is_deed": ["thing"], "LiveBook": ["start"]},
+    "booktexts": {"book_text": ["book"], "book_of_text": ["text"]},
+    "deedtexts": {"start_text": ["start"], "start_of_text": ["text"], "deed_text": ["deed"], "deed_of_text": ["text"]},
+    "journals": {"journal_text": ["live"], "led_live": ["text"]},
+    "desk": {"Desk": ["start"]},
 }
+
+METHODS = {("live", "LiveBook"): {"do": ["deed"], "deeds": [], "undo": [], "redo": [], "told": [],
+                                  "watch": ["name", "lot"], "unwatch": ["name"], "watched": []},
+           ("desk", "Desk"): {"say": ["line"]}}
+
+ATTRIBUTES = {("books", "Book"): ((2, [(0,)]), ("size", "bases", "rank")),
+              ("live", "LiveBook"): ((("even", 2, 3),), ("start", "book", "standing")),
+              ("desk", "Desk"): ((("even", 2, 3),), ("live",))}
 
 
 class Interface(unittest.TestCase):
@@ -64,6 +80,17 @@ class Interface(unittest.TestCase):
                 thing = getattr(module, name)
                 self.assertEqual(thing.__module__, f"flatrooms.{file}")
                 self.assertEqual(list(inspect.signature(thing).parameters), parameters, name)
+
+    def test_methods_stand_in_the_class_itself(self):
+        for (file, name), methods in METHODS.items():
+            own = vars(getattr(import_module(f"flatrooms.{file}"), name))
+            for method, parameters in methods.items():
+                self.assertEqual(list(inspect.signature(own[method]).parameters), ["self", *parameters], method)
+
+    def test_attributes_are_set_at_once(self):
+        for (file, name), (given, attributes) in ATTRIBUTES.items():
+            thing = getattr(import_module(f"flatrooms.{file}"), name)(*given)
+            self.assertLessEqual(set(attributes), set(vars(thing)))
 
 
 if __name__ == "__main__":

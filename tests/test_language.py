@@ -222,7 +222,7 @@ class Language(unittest.TestCase):
     def test_errors_are_made_where_they_are_raised(self, path, tree):
         for node in ast.walk(tree):
             if isinstance(node, ast.Raise):
-                self.assertRegex(called(node.exc) or "", r"^(Bad|No|Too)[A-Z][a-z]+")
+                self.assertRegex(called(node.exc) or "", r"^(Bad|No|Nothing|Too)[A-Z][a-z]+")
 
 
 if __name__ == "__main__":
