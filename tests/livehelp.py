@@ -35,8 +35,8 @@ REFUSED = [(("bases", 9, [()]), "BadBook", "size"), (("bases", True, 7), "BadBoo
 
 DEEDS = [("turn",), ("short",), ("leave", 0), ("leave", GREAT), ("draw", 3), ("twin", 7), ("freer", ()),
          ("freer", [0, 1, 2]), ("freer", (2, 1)), ("freer", [5, 5]), ("rename", [1, 0]), ("rename", ()),
-         ("rename", (0, GREAT)), ("beside", ("even", 1, 2)), ("beside", ("bases", 1, [(0,)])), ("beside", ("web", 2, ())),
-         ("beside", ("table", 3, [[1, 2], (0, 1)]))]
+         ("rename", (0, GREAT)), ("beside", ("even", 1, 2)), ("beside", ("bases", 1, [(0,)])),
+         ("beside", ("web", 2, ())), ("beside", ("table", 3, [[1, 2], (0, 1)]))]
 
 NO_DEEDS = ODDS + [0, (), "turn", ["turn"], ("turn", 0), ("turn", ()), ("short", None), ("Turn",), ("leave",),
                    ("leave", -1), ("leave", True), ("leave", None), ("leave", "0"), ("leave", [0]), ("leave", 0, 1),
@@ -45,7 +45,9 @@ NO_DEEDS = ODDS + [0, (), "turn", ["turn"], ("turn", 0), ("turn", ()), ("short",
                    ("freer", [[0]]), ("freer", "01"), ("rename", None), ("rename", [0, "1"]), ("rename", [0], [1]),
                    ("beside",), ("beside", None), ("beside", ["even", 1, 2]), ("beside", ("even", 3, 2)),
                    ("beside", ("even", 1, 9)), ("beside", "even 1 2"), ("beside", ("turn",)),
-                   ("beside", ("table", 4, [])), ("undo",), ("redo",), ("even", 1, 2), (None, 0), ([], 0), (0, 0), ("", 0)]
+                   ("beside", ("table", 4, [])), ("undo",), ("redo",), ("even", 1, 2), (None, 0), ([], 0), (0, 0),
+                   ("", 0), ("turn", 0, 1), ("short", None, None), ("turn", ("even", 1, 2)), ("live", ("even", 1, 2)),
+                   ("Beside", ("even", 1, 2)), ("leave", ("even", 1, 2)), ("freer", ("even", 1, 2)), ("leave", 0, None, 0)]
 
 
 def tuples(thing):
